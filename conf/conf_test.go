@@ -132,9 +132,9 @@ func TestLevels(t *testing.T) {
 		if e != api.OK || !slices.Equal(l, want) || conf.Check(c) != api.OK {
 			t.Fatal(c, l, e)
 		}
-		widest, buckets, rows := 0, 0, 0
+		widest, total, rows := 0, 0, 0
 		for i, x := range want {
-			widest, buckets, rows = max(widest, x.Width), buckets+2<<x.High-1, rows+x.High+1
+			widest, total, rows = max(widest, x.Width), total+1<<(x.High+1)-1, rows+x.High+1
 			if (x.Blocks <= c.Top) != (i == len(want)-1) {
 				t.Fatal("the last level alone has so few:", c, l)
 			}
@@ -143,10 +143,6 @@ func TestLevels(t *testing.T) {
 			t.Fatal(c, w, e)
 		}
 		first, tick, e := conf.Seals(c)
-		total := 0
-		for _, x := range want {
-			total += 2<<x.High - 1
-		}
 		if first != total || tick != 2*rows || e != api.OK {
 			t.Fatal(c, first, tick, e)
 		}
