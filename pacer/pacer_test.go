@@ -324,17 +324,13 @@ func TestUsedUp(t *testing.T) {
 			t.Error(more, got.Pacer.Fault, e)
 		}
 	}
-	p, _ := pacer.New(c, chacha(4), lanesOf(r, c, 10, 0), math.MaxUint64-42, 0)
-	for i, want := range []api.Errno{api.OK, api.ErrEntropy} {
-		next, e := pacer.Tick(c, chacha(4), p.Pacer, p.Dev)
-		if e != api.OK || next.Pacer.Fault.Code != want {
-			// The first tick's numbers are the last ones: the next one begins from 0 again, and may go on.
-			if i == 1 && e == api.OK && p.Pacer.Store.Next == 0 {
-				break
-			}
-			t.Error(i, p.Pacer.Store.Next, next.Pacer.Fault, e)
+	// A tick may use the last number of all, but no number behind it.
+	for from, want := range map[uint64]api.Errno{math.MaxUint64 - 42: api.OK, math.MaxUint64 - 41: api.ErrEntropy} {
+		p, _ := pacer.New(c, chacha(4), lanesOf(r, c, 10, 0), from, 0)
+		got, e := pacer.Tick(c, chacha(4), p.Pacer, p.Dev)
+		if e != api.OK || got.Pacer.Fault.Code != want || (want == api.OK) != (got.Pacer.Store.Next == 0) {
+			t.Error(from, got.Pacer.Store.Next, got.Pacer.Fault, e)
 		}
-		p = next
 	}
 }
 
