@@ -304,6 +304,11 @@ func TestBackRefuses(t *testing.T) {
 	if _, pad, e := canon.Back(big, make([]api.Unit, most), cellsOf(r, big, most), textsOf(r, big, most)); e != api.OK || len(pad.Pad) != (first+most*each)*224 {
 		t.Error(len(pad.Pad), e)
 	}
+	// That of 8,192 texts of 128 bytes has just as many as may be.
+	full := api.Config{Pages: 33, Size: 24, Fan: 3, Slots: 2, Stash: 64, Frames: 1, Clients: 1, Queue: 1, Top: 2}
+	if _, pad, e := canon.Back(full, make([]api.Unit, 236), cellsOf(r, full, 236), textsOf(r, full, 236)); e != api.OK || len(pad.Pad) != api.MaxPad {
+		t.Error(len(pad.Pad), e)
+	}
 	// All blocks are for one leaf, no path but one of the other half is read.
 	tight := api.Config{Pages: 16, Size: 1, Fan: 2, Slots: 1, Stash: 1, Frames: 1, Clients: 1, Queue: 1, Top: 16}
 	l := []api.Unit{fetch(0), fetch(1), fetch(2), fetch(3), fetch(4), fetch(5), fetch(6), fetch(7), fetch(8), fetch(9)}

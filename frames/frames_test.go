@@ -54,11 +54,13 @@ func refused(t *testing.T, c api.Config, f api.Frames) {
 	if at, is := frames.Find(c, f, 0); is || at != 0 {
 		t.Error("Find", f, at, is)
 	}
+	if out, at, e := frames.Victim(c, f); e != api.ErrBad || at != 0 || !isNone(out) {
+		t.Error("Victim", f, at, e)
+	}
 	if l := frames.Dirty(c, f); len(l) != 0 {
 		t.Error("Dirty", f, l)
 	}
 	for i, call := range []func() (api.Frames, api.Errno){
-		func() (api.Frames, api.Errno) { out, _, e := frames.Victim(c, f); return out, e },
 		func() (api.Frames, api.Errno) { return frames.Load(c, f, -1, 0, 0) },
 		func() (api.Frames, api.Errno) { return frames.Fill(c, f, -1, nil) },
 		func() (api.Frames, api.Errno) { return frames.Pin(c, f, -1, 0) },

@@ -186,7 +186,8 @@ func TestMemory(t *testing.T) {
 	}
 	found, _ := stash.Find(eight(), s, 5)
 	put, _ := stash.Put(eight(), s, more[0])
-	again, _ := stash.Put(eight(), s, block(5, 9))
+	five := block(5, 9)
+	again, _ := stash.Put(eight(), s, five)
 	dropped, _ := stash.Drop(eight(), s, 2)
 	added, _ := stash.Add(eight(), s, more)
 	roomy := append(make([]api.Block, 0, 10), s...)
@@ -198,7 +199,7 @@ func TestMemory(t *testing.T) {
 	}
 	for i, out := range [][]api.Block{{found}, put, again, dropped, added} {
 		wipe(out)
-		if !stash.Same(s, of(2, 5)) || !stash.Same(more, of(3)) {
+		if !stash.Same(s, of(2, 5)) || !stash.Same(more, of(3)) || five.Data[0] != 9 {
 			t.Error("memory is shared:", i)
 		}
 	}

@@ -58,7 +58,7 @@ func TestWords(t *testing.T) {
 		tells(t, strings.ReplaceAll(line, "; ", ";"), "?")
 	}
 	for _, line := range []string{
-		"key a", "key abcdefghijkl", "begin", "tape 0 0", "tape 0 999999", "tape 0 1 2 3", "pool 1 1 2 1 1 1 1 1 1", "pool 64 32 8 4 64 8 4 16 16", "pool 64 1 2 2 8 2 2 4 8",
+		"key a", "key abcdefghijkl", "key az", "begin", "tape 0 0", "tape 0 999999", "tape 0 1 2 3", "pool 1 1 2 1 1 1 1 1 1", "pool 64 32 8 4 64 8 4 16 16", "pool 64 1 2 2 8 2 2 4 8",
 	} {
 		tells(t, line, "ok")
 	}
@@ -76,7 +76,7 @@ func TestWords(t *testing.T) {
 
 // TestCalls is P32.1: what calls tell.
 func TestCalls(t *testing.T) {
-	tells(t, three+"; fetch 0 3; read 0 3; unpin 0 3; unpin 0 3; unpin 0 3; read 0 3", begun+" | ok | 00 | ok | ok | error 260 | error 260")
+	tells(t, three+"; write 0 3 10; read 0 3; write 0 3 00; fetch 0 3; read 0 3; unpin 0 3; unpin 0 3; unpin 0 3; read 0 3", begun+" | ok | 10 | ok | ok | 00 | ok | ok | error 260 | error 260")
 	tells(t, three+"; fetch 1 2; fetch 1 2; read 1 2; flush 0; show", begun+" | wait 1 | ? | ? | wait 1 | 1 13 0 6 13")
 	tells(t, three+"; fetch 1 2; flush 0; tick 1; fetch 1 1", begun+" | wait 1 | wait 1 | 0 ok; 1 ok | error 250")
 	tells(t, three+"; write 0 3 ff; seal 0; unpin 0 3; seal 0; flush 0; tick 1; seal 0; seal 1", begun+" | ok | error 260 | ok | error 230 | wait 1 | 0 ok | token 0 | token 1")
@@ -111,6 +111,7 @@ func TestHarm(t *testing.T) {
 	tells(t, three+"; old 0 1 3; old 0 1 0; old 0 8 0; tick 1; show", begun+" | no | ok | no | . | 2 13 110 12 19")
 	tells(t, three+"; drop 0 1; drop 0 8; drop 1 1; tick 1; show", begun+" | ok | no | no | . | 2 13 110 12 19")
 	tells(t, three+"; flip 0 1 12 0; flip 0 1 999 1; flip 0 0 0 1; flip 0 1 12 255; flip 0 1 12 255; tick 1; show", begun+" | no | no | no | ok | ok | . | 2 19 0 12 19")
+	tells(t, three+"; flip 0 1 90 1; flip 0 1 89 1; tick 1; show", begun+" | no | ok | . | 2 13 110 12 19")
 	tells(t, three+"; unpin 0 3; seal 0; tick 1; show; crash 13; open 0; show; fetch 1 3; read 1 3", begun+" | ok | token 0 | . | 2 19 0 12 19 | ok | ok | 2 19 0 19 19 | wait 1 | ?")
 	tells(t, three+"; unpin 0 3; seal 0; fetch 1 1; open 0; fetch 1 1; tick 1; read 1 1; open 1", begun+" | ok | token 0 | wait 1 | ok | wait 1 | 1 ok | 00 | no")
 }
